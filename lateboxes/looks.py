@@ -2,7 +2,7 @@
 
 from lateboxes.errors import TooMany
 from lateboxes.rows import (
-    BOXES, JUMP_AT, check_mill, check_program, lateness, looked_at, made_in,
+    BOXES, GOES, JUMP_AT, LEAVES, check_mill, check_program, lateness, looked_at, made_in,
 )
 
 MOST_STATES = 250
@@ -75,7 +75,7 @@ def broken(program, mill, state):
 def jumps_badly(program, mill, state):
     """Whether a row comes in the way of a going, or leaves the program ahead of it."""
     at, going, _ = state
-    if going != NO_GOING and program[at][0] in ("go", "if", "stop"):
+    if going != NO_GOING and program[at][0] in LEAVES:
         return True
     for _, (to, under_way) in places_behind(program, mill, state):
         if to == len(program) and under_way != NO_GOING:
@@ -90,7 +90,7 @@ def places_behind(program, mill, state):
     places = []
     if row[0] not in ("go", "stop"):
         places.append((0, place_behind(at, going)))
-    if row[0] in ("go", "if"):
+    if row[0] in GOES:
         # A going counts from the beat of its own row, as one that is under way does.
         places.append((1, place_behind(at, (row[-1], mill[JUMP_AT] + 1))))
     return places

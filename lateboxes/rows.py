@@ -29,6 +29,10 @@ LATE_AT = {"put": 0, "move": 0, "add": 0, "take": 0, "get": 1, "times": 2}
 JUMP_AT = 3
 MOST_LATE = (2, 4, 4, 3)
 
+# The words of rows that go to a row, and of those behind which the next one may not be done.
+GOES = ("go", "if")
+LEAVES = ("go", "if", "stop")
+
 
 def is_whole(x, most):
     """Whether x is a number from 0 to most."""
@@ -54,17 +58,23 @@ def is_row(row, many):
     return all([is_whole(x, most_for(sign, many)) for sign, x in zip(signs, row[1:])])
 
 
+def first_flaw(rows):
+    """The first of these rows that can't be in a program of them, or None."""
+    # Behind row 199 there is nothing to go to, however many rows there are.
+    many = min(len(rows), MOST_ROWS)
+    for at, row in enumerate(rows[:MOST_ROWS]):
+        if not is_row(row, many):
+            return at
+    if many == 0:
+        return 0
+    return MOST_ROWS if len(rows) > MOST_ROWS else None
+
+
 def check_program(program):
     """Refuses what is no program, with its first row that can't be."""
-    # Behind row 199 there is nothing to go to, however long the tuple is.
-    many = min(len(program), MOST_ROWS)
-    for at, row in enumerate(program[:MOST_ROWS]):
-        if not is_row(row, many):
-            raise BadProgram(at)
-    if many == 0:
-        raise BadProgram(0)
-    if len(program) > MOST_ROWS:
-        raise BadProgram(MOST_ROWS)
+    flaw = first_flaw(program)
+    if flaw is not None:
+        raise BadProgram(flaw)
 
 
 def check_mill(mill):
@@ -86,5 +96,5 @@ def made_in(row):
 
 
 def lateness(row, mill):
-    """How late the worth of a row comes, of a row that has one."""
-    return mill[LATE_AT[row[0]]]
+    """How late the worth of a row comes, 0 of a row without one."""
+    return mill[LATE_AT[row[0]]] if row[0] in LATE_AT else 0

@@ -1,6 +1,7 @@
 """Those rules of ../shared/LANGUAGE.md that a short look at the package's files can see."""
 
 import ast
+import importlib
 import pathlib
 import re
 import unittest
@@ -125,18 +126,28 @@ class Language(unittest.TestCase):
 
 
 class Interface(unittest.TestCase):
+    LISTED = {
+        "runs": {"run": ("program", "mill", "cells", "fuel")},
+        "looks": {"look": ("program", "mill")},
+        "pieces": {"blocks": ("program",), "ties": ("piece", "mill"),
+                   "kept": ("piece", "mill", "starts")},
+        "fewest": {"least": ("piece", "mill"), "shows": ("piece", "mill", "many", "paper")},
+        "fits": {"fitted": ("program", "mill"), "packed": ("program", "mill")},
+        "notes": {"written": ("program",), "read": ("text",)},
+    }
+
     def test_names_stand_where_the_document_lists_them(self):
-        for name, wanted in (("runs", ["run"]), ("looks", ["look"])):
+        for name, listed in self.LISTED.items():
             tree = ast.parse((FOLDER / (name + ".py")).read_text(encoding="utf-8"))
-            self.assertEqual(set(wanted) - {node.name for node in functions(tree)}, set())
+            defined = {node.name for node in tree.body if isinstance(node, ast.FunctionDef)}
+            self.assertEqual(set(listed) - defined, set())
 
     def test_arguments_are_handed_in_by_their_places(self):
-        from lateboxes import looks, runs
-        self.assertEqual(runs.run.__code__.co_varnames[:4],
-                         ("program", "mill", "cells", "fuel"))
-        self.assertEqual(runs.run.__code__.co_argcount, 4)
-        self.assertEqual(looks.look.__code__.co_varnames[:2], ("program", "mill"))
-        self.assertEqual(looks.look.__code__.co_argcount, 2)
+        for name, listed in self.LISTED.items():
+            module = importlib.import_module("lateboxes." + name)
+            for function, arguments in listed.items():
+                code = getattr(module, function).__code__
+                self.assertEqual(code.co_varnames[:code.co_argcount], arguments)
 
 
 if __name__ == "__main__":

@@ -2,8 +2,12 @@
 
 import unittest
 
-from lateboxes.errors import BadCells, BadFuel, BadMill, BadProgram, TooMany
+from lateboxes.errors import BadCells, BadFuel, BadMill, BadPiece, BadProgram, TooMany
+from lateboxes.fewest import least, shows
+from lateboxes.fits import fitted, packed
 from lateboxes.looks import look
+from lateboxes.notes import written
+from lateboxes.pieces import blocks, kept, ties
 from lateboxes.runs import run
 
 PLAINLY = (0, 0, 0, 0)
@@ -13,6 +17,16 @@ GOOD_ROWS = [
     ("times", 7, 7, 7), ("get", 7, 0), ("get", 0, 7), ("set", 7, 0), ("set", 0, 7),
     ("say", 0), ("say", 7), ("rest",), ("go", 0), ("go", 2), ("if", 0, 2), ("if", 7, 0),
     ("stop",),
+]
+
+# What is asked of a program, and of a piece, and a mill.
+PROGRAM_CALLS = [
+    lambda program, mill: run(program, mill, [0] * 16, 9), look, fitted, packed,
+]
+MILLESS_CALLS = [blocks, written]
+PIECE_CALLS = [
+    ties, lambda piece, mill: kept(piece, mill, [0]), least,
+    lambda piece, mill: shows(piece, mill, 0, ("way", (0,))),
 ]
 
 
@@ -40,16 +54,22 @@ def told_otherwise(row):
 
 class Programs(unittest.TestCase):
     def refused(self, program, row):
-        with self.assertRaises(BadProgram) as told:
-            run(program, PLAINLY, [0] * 16, 9)
-        self.assertEqual(told.exception.row, row, program)
-        with self.assertRaises(BadProgram) as told:
-            look(program, PLAINLY)
-        self.assertEqual(told.exception.row, row, program)
+        for call in PROGRAM_CALLS:
+            with self.assertRaises(BadProgram) as told:
+                call(program, PLAINLY)
+            self.assertEqual(told.exception.row, row, program)
+        for call in MILLESS_CALLS:
+            with self.assertRaises(BadProgram) as told:
+                call(program)
+            self.assertEqual(told.exception.row, row, program)
 
     def taken(self, program):
-        run(program, PLAINLY, [0] * 16, 9)
-        look(program, PLAINLY)
+        for call in PROGRAM_CALLS:
+            # What is fitted and packed has forty rows at the most.
+            if len(program) <= 40 or call not in (fitted, packed):
+                call(program, PLAINLY)
+        for call in MILLESS_CALLS:
+            call(program)
 
     def test_each_kind_of_row_is_taken(self):
         for row in GOOD_ROWS:
@@ -112,19 +132,20 @@ class Programs(unittest.TestCase):
 
 class Mills(unittest.TestCase):
     def refused(self, mill):
-        with self.assertRaises(BadMill):
-            run((REST,), mill, [0] * 16, 9)
-        with self.assertRaises(BadMill):
-            look((REST,), mill)
+        for call in PROGRAM_CALLS + PIECE_CALLS:
+            with self.assertRaises(BadMill):
+                call((REST,), mill)
+
+    def taken(self, mill):
+        for call in PROGRAM_CALLS + PIECE_CALLS:
+            call((REST,), mill)
 
     def test_least_and_greatest_and_one_beyond(self):
         most = (2, 4, 4, 3)
         for at in range(4):
             for number in range(most[at] + 1):
                 for others in (PLAINLY, most):
-                    mill = others[:at] + (number,) + others[at + 1:]
-                    run((REST,), mill, [0] * 16, 9)
-                    look((REST,), mill)
+                    self.taken(others[:at] + (number,) + others[at + 1:])
             for number in (-1, most[at] + 1, 10 ** 30, -10 ** 30, True):
                 for others in (PLAINLY, most):
                     self.refused(others[:at] + (number,) + others[at + 1:])
@@ -147,12 +168,43 @@ class FirstRefused(unittest.TestCase):
         self.refused_first(BadProgram, (), PLAINLY, [0] * 16, 0)
         self.refused_first(BadProgram, (REST, "no"), (0, 0, 0, 4), [0] * 16, 0)
         self.refused_first(BadMill, (REST,), (3, 0, 0, 0), [0] * 16, 1001)
-        with self.assertRaises(BadProgram):
-            look((("say", 8),), (9, 9, 9, 9))
-        with self.assertRaises(BadMill):
-            look((REST,), (9, 9, 9, 9))
+        for call in PROGRAM_CALLS:
+            for program in ((), (("say", 8),), (REST,) * 201):
+                with self.assertRaises(BadProgram):
+                    call(program, (9, 9, 9, 9))
+        for call in PIECE_CALLS:
+            for piece in ((), (("say", 8),), (REST,) * 13):
+                with self.assertRaises(BadPiece):
+                    call(piece, (9, 9, 9, 9))
 
-    def test_too_many_is_behind_all(self):
+    def test_too_many_is_behind_all_in_fits(self):
+        for call in (fitted, packed):
+            for many in (41, 200):
+                with self.assertRaises(TooMany):
+                    call((REST,) * many, PLAINLY)
+                with self.assertRaises(BadMill):
+                    call((REST,) * many, (0, 0, 0))
+                with self.assertRaises(BadProgram) as told:
+                    call((REST,) * (many - 1) + (("say", 8),), (0, 0, 0))
+                self.assertEqual(told.exception.row, many - 1)
+        with self.assertRaises(TooMany):
+            packed((("say", 0),) * 7, PLAINLY)
+        with self.assertRaises(BadMill):
+            packed((("say", 0),) * 7, (0, 0, 0, 4))
+        with self.assertRaises(BadProgram):
+            packed((("say", 0),) * 7 + (("go", 8),), (0, 0, 0, 4))
+
+    def test_too_many_is_behind_all_in_least(self):
+        with self.assertRaises(TooMany):
+            least((REST,) * 7, PLAINLY)
+        with self.assertRaises(BadMill):
+            least((REST,) * 7, (3, 0, 0, 0))
+        with self.assertRaises(BadPiece):
+            least((REST,) * 13, (3, 0, 0, 0))
+        with self.assertRaises(BadPiece):
+            least((("stop",),) + (REST,) * 6, PLAINLY)
+
+    def test_too_many_is_behind_all_in_looks(self):
         wide = (("if", 0, 2), ("get", 1, 0), REST, REST, REST, REST) * 33
         rows = tuple(("if", 0, at + 2) if row[0] == "if" else row
                      for at, row in enumerate(wide))
