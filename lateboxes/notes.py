@@ -15,7 +15,8 @@ def written(program):
 def read(text):
     """Tells the program of a text."""
     rows = tuple([row_of(line) for line in text.split("\n")])
-    flaw = first_flaw(rows)
+    # A line is held against a program of as many rows, even where none has so many.
+    flaw = first_flaw(rows, len(rows))
     if flaw is not None:
         raise BadText(flaw)
     return rows

@@ -58,21 +58,20 @@ def is_row(row, many):
     return all([is_whole(x, most_for(sign, many)) for sign, x in zip(signs, row[1:])])
 
 
-def first_flaw(rows):
-    """The first of these rows that can't be in a program of them, or None."""
-    # Behind row 199 there is nothing to go to, however many rows there are.
-    many = min(len(rows), MOST_ROWS)
+def first_flaw(rows, many):
+    """The first of these rows that can't be in a program of so many, or None."""
     for at, row in enumerate(rows[:MOST_ROWS]):
         if not is_row(row, many):
             return at
-    if many == 0:
+    if not rows:
         return 0
     return MOST_ROWS if len(rows) > MOST_ROWS else None
 
 
 def check_program(program):
     """Refuses what is no program, with its first row that can't be."""
-    flaw = first_flaw(program)
+    # No program has a row 200 to go to, however many rows are handed in.
+    flaw = first_flaw(program, min(len(program), MOST_ROWS))
     if flaw is not None:
         raise BadProgram(flaw)
 

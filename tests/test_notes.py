@@ -142,6 +142,42 @@ class Read(unittest.TestCase):
         self.refused("rest\n" * 199 + "\nrest", 199)
         self.refused("rest\n" * 199 + "say 8\nrest\nrest", 199)
 
+    def test_goings_in_a_text_of_more_than_200_lines(self):
+        for many in (201, 202, 203, 250, 300, 500, 999):
+            for going in ("go ", "if 7 "):
+                last = going + str(many - 1)
+                beyond = going + str(many)
+                self.refused("\n".join([last] * many), 200)
+                self.refused("\n".join([beyond] * many), 0)
+                for at in (0, 1, 100, 199, 200, many - 1):
+                    lines = ["rest"] * many
+                    lines[at] = last
+                    self.refused("\n".join(lines), 200)
+                    lines[at] = beyond
+                    self.refused("\n".join(lines), min(at, 200))
+        self.refused("\n".join(["go 200"] * 200), 0)
+        self.refused("\n".join(["go 201"] * 201), 0)
+        self.refused("\n".join(["go 200"] * 201), 200)
+        self.refused("\n".join(["if 8 200"] * 201), 0)
+        self.refused("\n".join(["go 0200"] * 201), 0)
+        self.refused("\n".join(["go 200"] * 150 + ["say 8"] + ["go 200"] * 50), 150)
+        self.refused("\n".join(["go 999"] * 1000), 200)
+        self.refused("\n".join(["go 1000"] * 1001), 0)
+
+    def test_goings_in_texts_of_many_lengths(self):
+        chance = random.Random(8)
+        for _ in range(400):
+            many = chance.choice([1, 2, 199, 200, 201, 202, 230])
+            goals = [chance.randrange(many) for _ in range(many)]
+            for _ in range(chance.randrange(3)):
+                goals[chance.randrange(many)] = many + chance.randrange(3)
+            text = "\n".join(["go " + str(goal) for goal in goals])
+            wrong = [at for at, goal in enumerate(goals) if goal >= many or at == 200]
+            if wrong:
+                self.refused(text, wrong[0])
+            else:
+                self.assertEqual(read(text), tuple([("go", goal) for goal in goals]))
+
     def test_the_first_line_that_cant_be_is_told(self):
         self.refused("rest\nsay 8\nsay 9\nno", 1)
         self.refused("say\nsay 8", 0)
